@@ -65,7 +65,8 @@ func TestFewestBoxesWhereRepackHasMore(t *testing.T) {
 	checkBoxes(t, limits(60, 9), heavy(30, 30, 20, 20, 10, 10), 2, 2, 2, 2)
 	checkBoxes(t, limits(60, 9), heavy(26, 26, 17, 17, 17, 17), 3, 3, 2, 2)
 	// In the class 5 one box could be saved, in the class 0 none.
-	two := pieces([3]int{1, 24, 5}, [3]int{2, 24, 5}, [3]int{3, 18, 5}, [3]int{4, 18, 5}, [3]int{5, 18, 5}, [3]int{6, 18, 5}, [3]int{7, 60, 0}, [3]int{8, 1, 0})
+	two := pieces([3]int{1, 24, 5}, [3]int{2, 24, 5}, [3]int{3, 18, 5}, [3]int{4, 18, 5}, [3]int{5, 18, 5}, [3]int{6, 18, 5})
+	two = append(two, pieces([3]int{7, 60, 0}, [3]int{8, 1, 0})...)
 	checkBoxes(t, limits(60, 9), two, 5, 5, 4, 4)
 }
 
